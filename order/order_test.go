@@ -44,6 +44,17 @@ func TestCompare(t *testing.T) {
 	}
 }
 
+// A3: an address stands ahead of another one just as it does by its own layer, and never ahead of itself.
+func TestLess(t *testing.T) {
+	for i, p := range rising() {
+		for k, q := range rising() {
+			if want := i < k && p.Addr != q.Addr; order.Less(p.Addr, q.Addr) != want {
+				t.Errorf("%v and %v: %v", p.Addr, q.Addr, !want)
+			}
+		}
+	}
+}
+
 // B2: the ends of a prefix, and what is beside them, tell who is within; the other kind never is.
 func TestWithin(t *testing.T) {
 	for _, p := range rising() {
