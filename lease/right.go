@@ -3,6 +3,7 @@ package lease
 import (
 	"yardarm/addr"
 	"yardarm/api"
+	"yardarm/name"
 	"yardarm/order"
 	"yardarm/prefix"
 )
@@ -33,26 +34,13 @@ func right(l api.Lease) api.Errno {
 	if e := addr.Check(l.Addr); e != api.OK {
 		return e
 	}
-	if !rightWho(l.Who) {
+	if !name.Right(l.Who) {
 		return api.ErrForm
 	}
 	if l.Until < 0 || l.Until > api.MaxTime+api.MaxTtl {
 		return api.ErrRange
 	}
 	return api.OK
-}
-
-// rightWho: is it a name? It is gone through by bytes, as no byte of a longer sign is a small letter or a digit.
-func rightWho(s string) bool {
-	if len(s) < 1 || len(s) > api.MaxWho {
-		return false
-	}
-	for i := range len(s) {
-		if !(s[i] >= 'a' && s[i] <= 'z' || s[i] >= '0' && s[i] <= '9') {
-			return false
-		}
-	}
-	return true
 }
 
 // wide: has a prefix that is right more addresses than a pool may have? Its ends tell; their lesser halves are enough, as these are furthest apart where the greater ones are not the same.
